@@ -1,0 +1,1 @@
+"""Letters in a case, and the pages that are set from them."""
