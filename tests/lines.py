@@ -33,6 +33,26 @@ def left():
     return call(5, [])
 
 
+def fits(mask):
+    return call(6, [mask])
+
+
+def fullest():
+    return call(7, [])
+
+
+def turns():
+    return call(8, [])
+
+
+def bought(t):
+    return call(9, [t])
+
+
+def plan(*masks):
+    return call(10, masks)
+
+
 def line(*calls):
     return [number for one in calls for number in one]
 

@@ -1,10 +1,14 @@
 """A house, the calls on it, and the answers to a line of such calls."""
 
-from typecase.letters import first_lacking, left_of_each
+from typecase.reckoning import (
+    can_stand_by_mask, each_stands_alone, first_cheapest_row, first_fewest_row, first_lacking, fullest_masks,
+    lacking_of_each, least_plan, left_of_each, wanted_together,
+)
 
 MOST_LETTERS = 32
 MOST_OF_A_LETTER = 65535
 MOST_PAGES = 8
+MOST_FORMES = 8
 
 WRONG_LETTERS = -1
 NO_SUCH = -2
@@ -23,6 +27,9 @@ class House:
 
     def stands(self, number):
         return (self.standing >> number) & 1 == 1
+
+    def has_pages(self, mask):
+        return mask >> len(self.pages) == 0
 
     # Reckoned anew each time, so that the case and what stands can't drift apart.
     def now_left(self):
@@ -89,8 +96,47 @@ def left(house, numbers):
     return [sum(each)] + each
 
 
+def fits(house, numbers):
+    mask = numbers[0]
+    if not house.has_pages(mask):
+        return [NO_SUCH]
+    lacking = lacking_of_each(house.case, wanted_together(house.case, house.pages, mask))
+    return [1 if sum(lacking) == 0 else 0] + lacking
+
+
+def fullest(house, numbers):
+    masks = fullest_masks(can_stand_by_mask(house.case, house.pages))
+    return [len(masks)] + masks
+
+
+def turns(house, numbers):
+    can_stand = can_stand_by_mask(house.case, house.pages)
+    if not each_stands_alone(can_stand):
+        return [CANNOT_STAND]
+    row = first_fewest_row(can_stand)
+    return [len(row)] + row
+
+
+def bought(house, numbers):
+    most_parts = numbers[0]
+    if most_parts == 0 and len(house.pages) > 0:
+        return [CANNOT_STAND]
+    cheapest = first_cheapest_row(house.case, house.pages, most_parts)
+    return [cheapest[0]] + cheapest[1] + cheapest[2]
+
+
+def plan(house, formes):
+    if len(formes) > MOST_FORMES or not all([house.has_pages(forme) for forme in formes]):
+        return [NO_SUCH]
+    can_stand = can_stand_by_mask(house.case, house.pages)
+    if not all([can_stand[forme] for forme in formes]):
+        return [CANNOT_STAND]
+    least = least_plan(house.case, house.pages, house.standing, formes)
+    return [least[0]] + least[1]
+
+
 # A call's number is its place here.
-CALLS = (begins, page, buy, set_page, back, left)
+CALLS = (begins, page, buy, set_page, back, left, fits, fullest, turns, bought, plan)
 
 
 def split_calls(calls):
